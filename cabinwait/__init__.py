@@ -1,0 +1,1 @@
+"""Waiting at a station where cabins go by on a loop."""
