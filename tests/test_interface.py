@@ -7,12 +7,15 @@ import unittest
 
 import cabinwait
 from cabinwait.station import answers
-from helper import MOST, begins, come, joined, row
+from helper import MOST, begins, come, ends, fewest, joined, row, times
 
 PACKAGE = pathlib.Path(cabinwait.__file__).parent
 
-MANY = joined([begins(4, 2, 1), come(1), come(3), row(2), come(21), begins(4, 2, 5), row(3), come(0), row(3), row(0)])
-MANY_ANSWERED = [1, 0, 1, 0, 1, 1, 5, 3, 1, 1, 1, 1, 1, -1, 1, -1, 1, -1, 1, 2, 5, 3, 1, 2, 2, 2, 2, 0, 0]
+MANY = joined([begins(4, 2, 1), come(1), come(3), row(2), come(21), begins(4, 2, 5), row(3), come(0), row(3), row(0),
+               times(), ends(), fewest(3), fewest(2), fewest(201), begins(7, 8, 3), times(), ends()])
+MANY_ANSWERED = joined([[1, 0], [1, 0], [1, 1], [5, 3, 1, 1, 1, 1], [1, -1], [1, -1], [1, -1], [1, 2],
+                        [5, 3, 1, 2, 2, 2], [2, 0, 0], [2, 1, 0], [3, 7, 13, 4], [1, 2], [1, 3], [1, -1], [1, 0],
+                        [4, 3, 0, 2, 4], [3, 0, 0, 0]])
 
 
 def refuse_change(self, *given):
@@ -43,6 +46,16 @@ class OneCall(unittest.TestCase):
         self.assertEqual(answers([2, 0]), [2, 0, 0])
         self.assertEqual(answers([2, 1]), [1, -1])
 
+    def test_times(self):
+        self.assertEqual(answers([3]), [2, 1, 0])
+
+    def test_ends(self):
+        self.assertEqual(answers([4]), [3, 0, 0, 0])
+
+    def test_fewest(self):
+        self.assertEqual(answers([5, 200]), [1, 1])
+        self.assertEqual(answers([5, 201]), [1, -1])
+
 
 class ManyCalls(unittest.TestCase):
     def test_each_answer_with_its_count_before_it(self):
@@ -56,6 +69,13 @@ class ManyCalls(unittest.TestCase):
 
     def test_a_refusal_is_its_number_alone(self):
         self.assertEqual(answers([1, 5, 2, 2, 1, MOST, 0, 0, 0, 0]), [1, 0, 1, -1, 1, -1, 1, -1])
+        self.assertEqual(answers([1, 5, 5, 201, 5, 3, 5, 4]), [1, 0, 1, -1, 1, -6, 1, 1])
+        self.assertEqual(answers([0, 20, 1, 1, 1, 12, 4, 3]), [1, 0, 1, 0, 1, -6, 2, 1, 0])
+
+    def test_each_sort_behind_one_that_has_no_numbers(self):
+        self.assertEqual(answers([3, 0, 2, 1, 2, 4, 1, 4, 3, 2, 1, 4, 5, 3, 3, 3]),
+                         joined([[2, 1, 0], [1, 0], [3, 0, 0, 0], [1, 0], [3, 2, 0, 1], [5, 3, 1, 1, 1, 1],
+                                 [3, 3, 6, 4], [1, 2], [3, 2, 0, 1], [3, 2, 0, 1]]))
 
     def test_whole_numbers_alone_in_a_list(self):
         answered = answers(MANY)
@@ -78,8 +98,9 @@ class WhatIsKept(unittest.TestCase):
 
     def test_nothing_is_kept_from_one_time_to_the_next(self):
         first = answers([1, 3, 2, 1])
-        answers([0, 5, 8, 5] + [1, 20] * 30)
+        answers([0, 5, 8, 5] + [1, 20] * 30 + [3, 4, 5, 60])
         self.assertEqual(answers([1, 3, 2, 1]), first)
+        self.assertEqual(answers([3, 4, 5, 0]), [2, 1, 0, 3, 0, 0, 0, 1, 1])
         self.assertEqual(answers([2, 1]), [1, -1])
 
     def test_what_is_given_back_is_free_to_be_changed(self):

@@ -1,7 +1,7 @@
 import random
 import unittest
 
-from helper import MOST, begins, cabin_goes_by, come, last, row, rows_step_by_step, told
+from helper import MOST, begins, cabin_goes_by, check_each, come, last, row, rows_step_by_step, told
 
 
 def gone_behind_each_minute(round_minutes, seats, cabins, minutes):
@@ -109,7 +109,7 @@ class EveryDay(unittest.TestCase):
                     calls = [begins(round_minutes, seats, cabins)] + [come(number) for number in people]
                     rows = told(*calls, *[row(minutes) for minutes in range(2, 31)])[31:]
                     with self.subTest(round=round_minutes, seats=seats, cabins=cabins, people=people):
-                        self.assertEqual(rows, rows_step_by_step(round_minutes, seats, cabins, people)[2:])
+                        check_each(self, rows, rows_step_by_step(round_minutes, seats, cabins, people)[2:])
 
 
 if __name__ == "__main__":
